@@ -1,0 +1,1 @@
+"""Growlists: lists of named values that grow."""
