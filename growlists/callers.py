@@ -168,11 +168,15 @@ def _told(deed, edition, fallbacks):
         one = _told(deed[1], edition, fallbacks)
         return _told(deed[2], edition, fallbacks) if one is None else one
     if word in ("name", "entry", "numbered", "set"):
-        return _looked_up(deed, edition, fallbacks)
-    parts = [_told(part, edition, fallbacks) for part in deed[1:]]
+        return looked_up(deed, edition, fallbacks)
+    return told_of(word, [_told(part, edition, fallbacks) for part in deed[1:]], edition)
+
+
+def told_of(word, parts, edition):
+    """What a deed tells of what the deeds in it tell; None if it fails, as they do."""
     if any([part is None for part in parts]):
         return None
-    sort = SHAPES[(word, len(deed))][0]
+    sort = SHAPES[(word, len(parts) + 1)][0]
     if sort == "member":
         return _told_member(word, parts, edition)
     if sort == "set":
@@ -182,7 +186,7 @@ def _told(deed, edition, fallbacks):
     return _told_number_or_text(word, parts[0])
 
 
-def _looked_up(deed, edition, fallbacks):
+def looked_up(deed, edition, fallbacks):
     """The member or set with the name or number in a deed, None if there is none."""
     word, name = deed
     if word == "numbered":

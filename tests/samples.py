@@ -36,3 +36,18 @@ def other_values():
         ["low"], [[]], {}, {"low": "mid"}, {1: [2, {"a": (None,)}]}, ((((),),),), ("name", "low"), twice_over(("all",)),
         edition, edition["low"], edition.everything(), [edition], (edition["mid"],), {"busy": edition.group("busy")},
     ]
+
+
+def edition_of(words, sets=None, numbers=None):
+    """An edition from words like "low mid,normal high", with the numbers 1, 2, 3 .. if no others are given."""
+    rows = []
+    for place, word in enumerate(words.split()):
+        name, *aliases = word.split(",")
+        rows.append((name, tuple(aliases), numbers[place] if numbers else place + 1))
+    return Edition(rows, sets)
+
+
+def swapped():
+    """Two editions whose sets have one member each, which change their order."""
+    sets = {"s": ["a"], "t": ["b"]}
+    return edition_of("p a b q", sets), edition_of("p b a q", sets)

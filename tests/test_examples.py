@@ -6,6 +6,10 @@ SETUP = """
 from growlists.editions import Edition
 from growlists.callers import answer, is_caller, is_written_for, kinds_of, size_of
 from growlists.newer import lost_name, new_members
+from growlists.pairs import reached
+from growlists.keeping import is_evidence, kept
+from growlists.shortest import shortest
+from growlists.safety import greatest, safe_fallbacks
 elder = Edition([("low", (), 1), ("mid", ("normal",), 5), ("high", (), 9)], {"busy": ["mid", "high"]})
 newer = Edition([("low", (), 1), ("mid", ("normal",), 5), ("high", (), 9), ("top", (), 12)], {"busy": ["mid", "high", "top"]})
 caller = ("text", ("next", ("name", "normal")))
@@ -31,6 +35,43 @@ CALLERS = [
 
 NEWER = [
     ("""[lost_name(elder, newer), lost_name(newer, elder), new_members(elder, newer)]""", """[None, 'top', ['top']]"""),
+]
+
+PAIRS = [
+    ("""reached(elder, newer, ["is", "ends"])""",
+     """([('low', 'low'), ('mid', 'mid'), ('high', 'high'), ('high', 'top')], [])"""),
+    ("""reached(elder, newer, ["is"], names=["low"], fallbacks={"top": "high"})""",
+     """([('low', 'low'), ('high', 'top')], [])"""),
+    ("""reached(elder, newer, ["less", "all"])""",
+     """([('low', 'low'), ('mid', 'mid'), ('high', 'high')], [(('low', 'mid', 'high'), ('low', 'mid', 'high', 'top'))])"""),
+    ("""[reached(elder, newer, ["is", "steps"]), reached(elder, newer, ["sets", "all"])[1]]""",
+     """[None, [(('low',), ('low',)), (('mid', 'high'), ('mid', 'high', 'top'))]]"""),
+    ("""reached(elder, newer, ["sets", "only"])[1]""",
+     """[((), ('top',)), (('low',), ('low',)), (('mid',), ('mid',)), (('high',), ('high',))]"""),
+]
+
+KEEPING = [
+    ("""[kept(elder, newer, kinds) for kinds in (["is", "less"], ["is", "ends"], ["sets", "all"], ["sets", "only"], """
+     """["less", "all"], ["all", "counts"])]""",
+     """[True, False, True, False, True, False]"""),
+    ("""[kept(elder, newer, ["number", "ends"]), kept(elder, newer, ["is"], fallbacks={"top": "high"}), """
+     """kept(elder, newer, ["text"])]""",
+     """[False, False, True]"""),
+    ("""is_evidence(elder, newer, ["is"], ([("low", "low"), ("mid", "mid"), ("high", "high")], []))""", """True"""),
+]
+
+SHORTEST = [
+    ("""[size_of(shortest(elder, newer, ["is", "ends"])), shortest(elder, newer, ["all", "counts"]), """
+     """shortest(elder, newer, ["less"])]""",
+     """[3, ('size', ('all',)), None]"""),
+]
+
+SAFETY = [
+    ("""greatest(elder, newer, ["less", "all", "ends", "counts"])""", """[['less', 'all'], ['less', 'counts']]"""),
+    ("""[safe_fallbacks(elder, newer, ["is"]), safe_fallbacks(elder, elder, ["is"])]""", """[[], [{}]]"""),
+    ("""[safe_fallbacks(elder, newer, ["sets", "all"]), safe_fallbacks(elder, newer, ["sets", "is"], names=["mid"])]""",
+     """[[{'top': 'mid'}, {'top': 'high'}], [{'top': 'high'}]]"""),
+    ("""safe_fallbacks(elder, newer, ["less"], names=["low"])""", """[{'top': 'mid'}, {'top': 'high'}]"""),
 ]
 
 
@@ -59,3 +100,15 @@ class Examples(unittest.TestCase):
 
     def test_newer(self):
         self.check(NEWER)
+
+    def test_pairs(self):
+        self.check(PAIRS)
+
+    def test_keeping(self):
+        self.check(KEEPING)
+
+    def test_shortest(self):
+        self.check(SHORTEST)
+
+    def test_safety(self):
+        self.check(SAFETY)
