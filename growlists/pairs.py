@@ -40,7 +40,7 @@ def is_list_of_kinds(value):
     """Whether any value is a list of different kinds by which a caller sees members."""
     if not isinstance(value, list) or not 1 <= len(value) <= MOST_KINDS:
         return False
-    if not all([isinstance(kind, str) and kind in ALL_KINDS for kind in value]) or len(set(value)) < len(value):
+    if not all([kind in ALL_KINDS for kind in value]) or len(set(value)) < len(value):
         return False
     if "only" in value and "sets" not in value:
         return False

@@ -37,9 +37,8 @@ def _looking_deeds(elder, newer, kinds, names, fallbacks):
         deeds.extend([("numbered", elder[name].number) for name in elder.names])
     if "sets" in kinds:
         deeds.extend([("set", name) for name in elder.sets])
-    leads = {} if fallbacks is None else fallbacks
     return [
-        (deed, SHAPES[(deed[0], 2)][0], looked_up(deed, elder, leads), looked_up(deed, newer, leads))
+        (deed, SHAPES[(deed[0], 2)][0], looked_up(deed, elder, fallbacks), looked_up(deed, newer, fallbacks))
         for deed in deeds
     ]
 

@@ -180,6 +180,12 @@ class Parts(Evidence):
         new = edition_of("a b c", {"s": ["a"], "t": ["b", "c"]})
         self.check(False, ["sets", "is"], [], [(("a", "b"), ("a",)), (("b", "c"), ("b", "c"))], old, new, names=[])
 
+    def test_parts_that_share_a_newer_member(self):
+        old = edition_of("a b", {"s": ["a"], "t": ["b"]})
+        new = edition_of("a b", {"s": ["a"], "t": ["a"]})
+        self.check(False, ["sets", "is"], [], [(("a",), ("a",)), (("b",), ("a",))], old, new, names=[])
+        self.check(False, ["sets", "is"], [], [(("a",), ("a",)), (("a",), ("b",))], new, old, names=[])
+
     def test_named_sets_are_unions(self):
         old = edition_of("a b c d", {"s": ["a", "b", "c"], "t": []})
         same = [(name, name) for name in "abcd"]
