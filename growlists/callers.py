@@ -64,7 +64,7 @@ KINDS = {
 
 def is_caller(value):
     """Whether any value is a caller."""
-    return _deeds_of(value) is not None
+    return deeds_of(value) is not None
 
 
 def size_of(caller):
@@ -86,19 +86,23 @@ def answer(caller, edition, *, fallbacks=None):
     """What a caller tells in an edition: ("told", value), or ("fails",)."""
     if not is_caller(caller):
         raise BadCaller(caller)
-    told = _told(caller, edition, {} if fallbacks is None else fallbacks)
+    return as_answer(_told(caller, edition, {} if fallbacks is None else fallbacks))
+
+
+def as_answer(told):
+    """The answer of a caller that tells this, or that fails where this is None."""
     return ("fails",) if told is None else ("told", told)
 
 
 def _checked_deeds(caller):
     """The deeds of a caller, which any value may turn out not to be."""
-    deeds = _deeds_of(caller)
+    deeds = deeds_of(caller)
     if deeds is None:
         raise BadCaller(caller)
     return deeds
 
 
-def _deeds_of(value):
+def deeds_of(value):
     """The deeds of a caller, None for any other value."""
     for sort in ("truth", "number", "text"):
         deeds = _deeds_telling(value, sort)

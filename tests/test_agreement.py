@@ -10,25 +10,9 @@ from growlists.newer import new_members
 from growlists.pairs import reached
 from growlists.safety import greatest, safe_fallbacks
 from growlists.shortest import shortest
+from tests.deeds import DEEDS
 from tests.oracle import Both, random_editions, random_kinds, random_names
 from tests.samples import elder, newer
-
-# What a deed tells, its word, the sorts of its parts, and its kind.
-DEEDS = [
-    ("member", "first", (), "ends"), ("member", "last", (), "ends"),
-    ("member", "first", ("set",), "ends"), ("member", "last", ("set",), "ends"),
-    ("member", "next", ("member",), "steps"), ("member", "previous", ("member",), "steps"),
-    ("set", "all", (), "all"), ("set", "only", ("member",), "only"),
-    ("set", "or", ("set", "set"), "sets"), ("set", "and", ("set", "set"), "sets"),
-    ("set", "but", ("set", "set"), "sets"),
-    ("truth", "is", ("member", "member"), "is"), ("truth", "less", ("member", "member"), "less"),
-    ("truth", "in", ("member", "set"), "sets"), ("truth", "empty", ("set",), "sets"),
-    ("number", "size", ("set",), "counts"), ("number", "place", ("member",), "counts"),
-    ("number", "number", ("member",), "number"), ("text", "text", ("member",), "text"),
-]
-for SORT in ("member", "set", "truth", "number", "text"):
-    DEEDS.append((SORT, "if", ("truth", SORT, SORT), "choices"))
-    DEEDS.append((SORT, "else", (SORT, SORT), "choices"))
 
 
 class Writer:

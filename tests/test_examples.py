@@ -10,6 +10,10 @@ from growlists.pairs import reached
 from growlists.keeping import is_evidence, kept
 from growlists.shortest import shortest
 from growlists.safety import greatest, safe_fallbacks
+from growlists.later import is_later, lasts
+from growlists.posts import Post
+from growlists.rows import losing_row, lost_on, through
+from growlists.texts import edition_text, read_edition
 elder = Edition([("low", (), 1), ("mid", ("normal",), 5), ("high", (), 9)], {"busy": ["mid", "high"]})
 newer = Edition([("low", (), 1), ("mid", ("normal",), 5), ("high", (), 9), ("top", (), 12)], {"busy": ["mid", "high", "top"]})
 caller = ("text", ("next", ("name", "normal")))
@@ -74,11 +78,66 @@ SAFETY = [
     ("""safe_fallbacks(elder, newer, ["less"], names=["low"])""", """[{'top': 'mid'}, {'top': 'high'}]"""),
 ]
 
+LATER = [
+    ("""[lasts(elder, ("less", ("name", "low"), ("name", "mid")), ("any", [])), """
+     """len(lasts(elder, ("text", ("last",)), ("end", [])))]""",
+     """[None, 4]"""),
+    ("""[lasts(elder, ("text", ("next", ("name", "low"))), ("end", [])), """
+     """len(lasts(elder, ("text", ("next", ("name", "low"))), ("any", [])))]""",
+     """[None, 4]"""),
+    ("""[len(found), is_later(elder, found, ("end", [])), lasts(elder, ("size", ("set", "busy")), ("any", []))]""",
+     """[5, True, None]"""),
+]
 
-def shown(source):
-    """What the document shows for an expression."""
+LATER_BEFORE = """
+found = lasts(elder, ("number", ("next", ("next", ("name", "high")))), ("end", []))
+"""
+
+POSTS = [
+    ("""[post.hand("shop", "till", 0), post.hand("shop", "bin", 0), post.hand("till", "shop", 0), """
+     """post.hand("shop", "till", 1)]""",
+     """[('unknown', 'number', 12), 'low', None, 'mid']"""),
+    ("""[post.held("till"), post.upgrade("till", newer), post.held("till"), post.hand("till", "shop", 0), """
+     """post.held("shop")]""",
+     """[[('unknown', 'number', 12), 'mid'], None, ['top', 'mid'], 'top', ['top', 'mid', 'top']]"""),
+]
+
+POSTS_BEFORE = """
+post = Post()
+told = [post.add("shop", newer, wire="name"), post.add("till", elder, manner="keep"), post.add("bin", elder, manner="fall")]
+told = [post.put("shop", "top"), post.put("shop", "normal")]
+"""
+
+ROWS = [
+    ("""[through(post, ["shop", "till", "shop"], "top"), through(post, ["shop", "bin"], "top"), """
+     """lost_on(post, ["shop", "bin", "till", "shop"])]""",
+     """['top', 'low', ['top']]"""),
+    ("""[losing_row(post, "shop"), losing_row(post, "till"), losing_row(post, "bin")]""",
+     """[['shop', 'bin', 'shop'], None, None]"""),
+]
+
+ROWS_BEFORE = """
+post = Post()
+told = [post.add("shop", newer), post.add("till", elder, manner="keep"), post.add("bin", elder, manner="fall")]
+"""
+
+TEXTS = [
+    ("""edition_text(elder)""",
+     """'member low 1\\nmember mid 5 normal\\nmember high 9\\nset busy mid high'"""),
+    ("""read_edition(edition_text(elder)) == elder""", """True"""),
+    ("""read_edition("member low 1\\nset busy low\\nmember mid 5")""", """raises BadText(3)"""),
+]
+
+
+def names_after(before):
+    """The names that an example uses, once the lines before it have run."""
     names = {}
-    exec(SETUP, names)
+    exec(SETUP + before, names)
+    return names
+
+
+def shown(source, names):
+    """What the document shows for an expression."""
     try:
         return repr(eval(source, names))
     except ValueError as error:
@@ -87,10 +146,11 @@ def shown(source):
 
 
 class Examples(unittest.TestCase):
-    def check(self, examples):
+    def check(self, examples, before=""):
+        names = names_after(before)
         for source, told in examples:
             with self.subTest(source):
-                self.assertEqual(shown(source), told)
+                self.assertEqual(shown(source, names), told)
 
     def test_editions(self):
         self.check(EDITIONS)
@@ -112,3 +172,15 @@ class Examples(unittest.TestCase):
 
     def test_safety(self):
         self.check(SAFETY)
+
+    def test_later(self):
+        self.check(LATER, LATER_BEFORE)
+
+    def test_posts(self):
+        self.check(POSTS, POSTS_BEFORE)
+
+    def test_rows(self):
+        self.check(ROWS, ROWS_BEFORE)
+
+    def test_texts(self):
+        self.check(TEXTS)
