@@ -130,6 +130,7 @@ class Growth:
         return found
 
     def _cases_of_choice(self, deed, line):
+        """What "if" or "else" tells, in all cases."""
         found = []
         for told, after in self.cases(deed[1], line):
             branch = _branch_of(deed, told)
@@ -180,11 +181,13 @@ class Growth:
         return found
 
     def _cases_of_place(self, line, mark):
+        """The place of a member, with nobody more before it and with one more."""
         at = _position_of(mark, line)
         heads = [line[:at], *_lines_with_one_more(line[:at], {GAP: self.full}, _members_in(line))]
         return [(_members_in(head), [*head, *line[at:]]) for head in heads]
 
     def _named_set(self, name):
+        """The named set: new members lie in it by their lots if it is a grown one."""
         lies = {GAP: 0}
         if name in self.grown:
             at = self.grown.index(name)
@@ -195,6 +198,7 @@ class Growth:
         return lies
 
     def _set_of(self, word, parts):
+        """The set that a deed makes of a member or of sets."""
         if word == "all":
             return {GAP: self.full}
         if word == "only":
